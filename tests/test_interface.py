@@ -1,0 +1,42 @@
+"""The interface: names, arguments, and the file that defines each of them."""
+
+import importlib
+import inspect
+import unittest
+
+FUNCTIONS = {
+    "nets": {"is_net": ["value"], "enabled": ["net", "marking"], "after": ["net", "marking", "name"]},
+    "sound": {"unsound": ["net"], "shows": ["net", "word", "names"], "grounds": ["net"],
+              "grounds_hold": ["net", "value"], "finish": ["net", "marking"]},
+}
+CLASSES = {
+    "FlowError": None, "BadValue": "at", "BadText": "at", "BadRow": "at", "BadGrounds": "at",
+    "NoMove": "at", "Doubled": "place", "Unsound": "word", "NoRight": "act", "NotNow": "status",
+    "NoFlow": "flow", "NoInstance": "number", "Late": None, "TooMany": None,
+}
+
+
+class InterfaceTest(unittest.TestCase):
+
+    def test_functions(self):
+        for file, functions in FUNCTIONS.items():
+            module = importlib.import_module("wholeflow." + file)
+            for name, arguments in functions.items():
+                function = getattr(module, name)
+                self.assertTrue(inspect.isfunction(function))
+                self.assertEqual(function.__module__, "wholeflow." + file)
+                self.assertEqual(list(inspect.signature(function).parameters), arguments)
+
+    def test_classes(self):
+        module = importlib.import_module("wholeflow.errors")
+        for name, argument in CLASSES.items():
+            error = getattr(module, name)
+            self.assertTrue(inspect.isclass(error))
+            self.assertEqual(error.__module__, "wholeflow.errors")
+            if argument is not None:
+                told = list(inspect.signature(error.__init__).parameters)
+                self.assertEqual(told, ["self", argument])
+
+
+if __name__ == "__main__":
+    unittest.main()

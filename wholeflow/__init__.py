@@ -1,0 +1,1 @@
+"""Wholeflow: a house of workflows."""
