@@ -1,6 +1,10 @@
 """Nets made by chance, the same ones in each run."""
 
+import random
+
 from samples import CHOICE, PLAIN, SIGNAL, TASK, WAIT
+
+from wholeflow.nets import is_net
 
 KINDS = (PLAIN, CHOICE, SIGNAL, WAIT, TASK)
 LETTERS = "abcdefghij"
@@ -66,3 +70,14 @@ def made(chance, most_places=8, most_steps=10):
     rows = [(name, kind, tuple(sorted(ins)), tuple(sorted(outs)))
             for name, kind, (ins, outs) in zip(names, kinds, steps)]
     return places, tuple(rows)
+
+
+def nets(number, many, most_places=8, most_steps=10):
+    """So many nets made by chance."""
+    chance = random.Random(number)
+    found = []
+    while len(found) < many:
+        value = made(chance, most_places, most_steps)
+        if is_net(value):
+            found.append(value)
+    return found

@@ -88,6 +88,23 @@ UNSOUND = (DOUBLES, LEAVES, STICKS, NEVER)
 # Things that are neither a list nor a tuple.
 NO_SEQUENCES = (None, True, False, 0, 1, -1, 10 ** 30, "", "a", "abc")
 
+# Things of other kinds than integers, and integers beyond the bounds of ticks.
+NO_INTEGERS = (None, True, False, "", "0", "a", (), [], (0,), [1])
+NO_TICKS = NO_INTEGERS + (-1, 10 ** 6 + 1, 10 ** 30, -10 ** 30)
+
+# Calendars: of length 1 and 28, with all ticks open and with a single one, of plain days.
+CALENDARS = (
+    None, (1, (0,)), (2, (1,)), (7, (0, 1, 2, 3, 4)), (7, (6,)), (5, (0, 2, 3)), (7, tuple(range(7))),
+    (28, (0,)), (28, (27,)), (28, tuple(range(28))), (28, (3, 4, 9, 10, 20, 27)), (28, tuple(range(1, 28))),
+)
+
+NO_CALENDARS = (
+    (0, (0,)), (29, (0,)), (-7, (0,)), (7, (7,)), (7, (-1,)), (1, (1,)), (28, (28,)), (7, (0, 7)), (7, ()), [7, []],
+    (7, (1, 0)), (7, (1, 1)), (True, (0,)), (7, (True,)), (7, (False, 1)), (7, 1), (7, None), (7, "0"), (7, ("0",)),
+    (7, ((0,),)), (7,), (7, (0,), None), (), [], "", "7", "ab", 7, 0, False, True, (None, (0,)), ((0,), 7),
+    ((7, (0,)),), (10 ** 30, (0,)), ("7", (0,)), (7, (0, 10 ** 30)),
+)
+
 NO_NETS = NO_SEQUENCES + (
     (), [], (3,), (3, (), ()), (3, None), (3, "steps"), (3, 0), (3, (None,)), (3, ((),)),
     (1, ()), (9, ()), (True, ()), ("3", ()), (None, ()), ((3, ()),), LETTER[1],

@@ -4,27 +4,16 @@ import random
 import unittest
 
 import reference
-from makers import made
+from makers import nets
 from samples import as_lists
 
 from wholeflow.errors import BadGrounds, BadValue, Doubled
-from wholeflow.nets import after, enabled, is_net
+from wholeflow.nets import after, enabled
 from wholeflow.sound import finish, grounds, grounds_hold, shows, unsound
 
 WORDS = ("doubled", "left", "stuck", "never")
 # Numbers that a changed depth or rank becomes.
 NUMBERS = (0, 1, 2, 3, 4, 5, 10 ** 6)
-
-
-def nets(number, many, most_places=8, most_steps=10):
-    """So many nets made by chance."""
-    chance = random.Random(number)
-    found = []
-    while len(found) < many:
-        value = made(chance, most_places, most_steps)
-        if is_net(value):
-            found.append(value)
-    return found
 
 
 def random_names(chance, net, many):

@@ -2,7 +2,7 @@
 
 import unittest
 
-from samples import NO_SEQUENCES
+from samples import CALENDARS, NO_CALENDARS, NO_SEQUENCES, NO_TICKS, as_lists
 
 from wholeflow.forms import as_tuples, is_ascending, is_calendar, is_integer, is_tick, is_word
 
@@ -22,9 +22,10 @@ class IntegersTest(unittest.TestCase):
             self.assertIs(is_integer(value, 0, 5), False)
 
     def test_ticks(self):
-        for value, told in ((-1, False), (0, True), (10 ** 6, True), (10 ** 6 + 1, False),
-                            (True, False), (None, False), ("0", False), ((0,), False)):
-            self.assertIs(is_tick(value), told)
+        for value in (0, 1, 10 ** 6 - 1, 10 ** 6):
+            self.assertIs(is_tick(value), True)
+        for value in NO_TICKS:
+            self.assertIs(is_tick(value), False)
 
 
 class SequencesTest(unittest.TestCase):
@@ -62,17 +63,12 @@ class WordsTest(unittest.TestCase):
 class CalendarsTest(unittest.TestCase):
 
     def test_calendars(self):
-        for value in (None, (1, (0,)), (28, (27,)), (7, (0, 6)), [7, [1, 2]], (28, tuple(range(28)))):
+        for value in CALENDARS:
             self.assertIs(is_calendar(value), True)
-
-    def test_bounds(self):
-        for value in ((0, (0,)), (29, (0,)), (7, (7,)), (7, (-1,)), (1, (1,)), (28, (28,))):
-            self.assertIs(is_calendar(value), False)
+            self.assertIs(is_calendar(as_lists(value)), True)
 
     def test_no_calendars(self):
-        for value in ((7, ()), (7, (1, 0)), (7, (1, 1)), (True, (0,)), (7, (True,)), (7, 1),
-                      (7, None), (7, "0"), (7,), (7, (0,), None), (), "", "7", 7, False, True,
-                      (None, (0,)), ((0,), 7), ((7, (0,)),)):
+        for value in NO_CALENDARS:
             self.assertIs(is_calendar(value), False)
 
 

@@ -8,6 +8,11 @@ FUNCTIONS = {
     "nets": {"is_net": ["value"], "enabled": ["net", "marking"], "after": ["net", "marking", "name"]},
     "sound": {"unsound": ["net"], "shows": ["net", "word", "names"], "grounds": ["net"],
               "grounds_hold": ["net", "value"], "finish": ["net", "marking"]},
+    "versions": {"fits": ["net", "names"], "marking_after": ["net", "names"], "unlike": ["one", "other"]},
+    "hours": {"is_open": ["calendar", "tick"], "open_ticks": ["calendar", "first", "last"],
+              "due": ["calendar", "first", "ticks"]},
+    "forecast": {"has_circle": ["net"], "span": ["net", "times"], "shortest": ["net", "times"],
+                 "longest": ["net", "times"]},
 }
 CLASSES = {
     "FlowError": None, "BadValue": "at", "BadText": "at", "BadRow": "at", "BadGrounds": "at",

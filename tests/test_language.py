@@ -75,7 +75,6 @@ class LanguageTest(unittest.TestCase):
         for name in files():
             text = source(name)
             self.assertTrue(all(sign == "\n" or " " <= sign <= "~" for sign in text), name)
-            self.assertNotIn("%", text)
             lines = text.split("\n")
             self.assertLess(len(lines), 400, name)
             self.assertLessEqual(max(len(line) for line in lines), 120, name)
@@ -110,7 +109,9 @@ class LanguageTest(unittest.TestCase):
         for name, node in self.nodes(*UNWANTED):
             self.fail((name, node.lineno))
         for name, node in self.nodes(ast.Constant):
-            self.assertNotIsInstance(node.value, (float, complex))
+            self.assertNotIsInstance(node.value, (float, complex, bytes))
+            if isinstance(node.value, str):
+                self.assertNotIn("%", node.value, name)
 
     def test_module_level(self):
         for name in files():
