@@ -4,6 +4,7 @@ import ast
 import builtins
 import os
 import unittest
+import warnings
 
 ROOT = os.path.dirname(os.path.dirname(os.path.abspath(__file__)))
 PACKAGE = os.path.join(ROOT, "wholeflow")
@@ -22,6 +23,9 @@ STATEMENTS = (
     ast.Module, ast.FunctionDef, ast.ClassDef, ast.ImportFrom, ast.Assign, ast.AugAssign, ast.If, ast.While,
     ast.For, ast.Return, ast.Break, ast.Continue, ast.Pass, ast.Raise, ast.Assert, ast.Delete, ast.Try, ast.Expr,
 )
+DOUBLE_UNDERSCORES = ("__init__", "__eq__")
+# The interface itself gives this parameter the name of a function of its file.
+SHADOWS = (("audit.py", "proof_holds", "top"),)
 UNWANTED = (ast.GeneratorExp, ast.Div, ast.Set, ast.SetComp, ast.Global, ast.Yield, ast.Await)
 
 
@@ -81,7 +85,7 @@ class LanguageTest(unittest.TestCase):
         for name, node in self.nodes(ast.FunctionDef):
             self.assertLessEqual(node.end_lineno - node.lineno + 1, 40, (name, node.name))
             self.assertEqual(node.decorator_list, [])
-            self.assertTrue(ast.get_docstring(node) or node.name == "__init__", (name, node.name))
+            self.assertTrue(ast.get_docstring(node) or node.name in DOUBLE_UNDERSCORES, (name, node.name))
 
     def test_imports(self):
         ahead = {"__init__.py": []}
@@ -128,15 +132,54 @@ class LanguageTest(unittest.TestCase):
                 self.assertIn(node.id, BUILTINS, name)
             self.assertNotIn(node.id, UNUSED, name)
         for name, node in self.nodes(ast.FunctionDef):
-            for local in local_names(node) + [node.name.replace("__init__", "made")]:
+            if node.name not in DOUBLE_UNDERSCORES:
+                self.assertFalse(hasattr(builtins, node.name), (name, node.name))
+            for local in local_names(node):
                 self.assertFalse(hasattr(builtins, local), (name, local))
             for local in local_names(node):
-                self.assertNotIn(local, defined(name), (name, node.name))
+                if (name, node.name, local) not in SHADOWS:
+                    self.assertNotIn(local, defined(name), (name, node.name))
 
     def test_methods(self):
+        own = [method.name for _, node in self.nodes(ast.ClassDef)
+               for method in node.body if isinstance(method, ast.FunctionDef)]
         for name, node in self.nodes(ast.Call):
             if isinstance(node.func, ast.Attribute):
-                self.assertIn(node.func.attr, METHODS, name)
+                self.assertIn(node.func.attr, METHODS + own, name)
+                self.assertTrue(node.func.attr != "sort", name)
+                if node.func.attr in METHODS:
+                    self.assertEqual(node.keywords, [], name)
+
+    def test_attributes(self):
+        """No attribute has the name of a method, each that is read is assigned, and none is of a builtin value."""
+        own = {method.name for _, node in self.nodes(ast.ClassDef)
+               for method in node.body if isinstance(method, ast.FunctionDef)}
+        assigned = {node.attr for _, node in self.nodes(ast.Attribute) if isinstance(node.ctx, ast.Store)}
+        self.assertEqual(own & assigned, set())
+        for value in ("", 0, [], {}, set(), b"", ()):
+            self.assertEqual([name for name in assigned | own - {"__init__", "__eq__", "copy"} if hasattr(value, name)], [])
+        for name, node in self.nodes(ast.Attribute):
+            if isinstance(node.ctx, ast.Load):
+                self.assertIn(node.attr, assigned | own | set(METHODS), name)
+
+    def test_double_underscores(self):
+        for name, node in self.nodes(ast.FunctionDef):
+            if node.name.startswith("__"):
+                self.assertIn(node.name, DOUBLE_UNDERSCORES)
+            self.assertTrue(node.args.vararg is None and node.args.kwarg is None and not node.args.defaults, name)
+
+    def test_handlers(self):
+        errors = [row.name for row in tree("errors.py").body if isinstance(row, ast.ClassDef)]
+        for name, node in self.nodes(ast.ExceptHandler):
+            self.assertIn(node.type.id, errors, name)
+        for name, node in self.nodes(ast.Raise):
+            self.assertIn(node.exc.func.id, errors, name)
+
+    def test_warnings(self):
+        for name in files():
+            with warnings.catch_warnings():
+                warnings.simplefilter("error")
+                compile(source(name), name, "exec")
 
     def test_is(self):
         for name, node in self.nodes(ast.Compare):

@@ -1,16 +1,27 @@
 """The forms of plain values: integers, sequences, words, ticks, calendars."""
 
+from wholeflow.errors import BadValue
+
 MOST_TICK = 10 ** 6
 MOST_LETTERS = 8
 MOST_LENGTH = 28
 
 
+def require(holds, at):
+    """BadValue(at) for what does not hold."""
+    if not holds:
+        raise BadValue(at)
+
+
+def is_number(value):
+    """Whether value is an integer."""
+    # Python counts True and False as integers, the document does not.
+    return isinstance(value, int) and not isinstance(value, bool)
+
+
 def is_integer(value, least, most):
     """Whether value is an integer from least to most."""
-    # Python counts True and False as integers, the document does not.
-    if not isinstance(value, int) or isinstance(value, bool):
-        return False
-    return least <= value <= most
+    return is_number(value) and least <= value <= most
 
 
 def is_sequence(value):

@@ -44,25 +44,34 @@ def is_marking(value, places):
     return is_ascending(value, 0, places - 1)
 
 
+def are_outs(value, places):
+    """Whether value is the outs of a step."""
+    return is_marking(value, places) and len(value) > 0
+
+
+def are_ins(value, places):
+    """Whether value is the ins of a step."""
+    return are_outs(value, places) and END_PLACE not in value
+
+
 def is_step(value, places):
     """Whether value is a step, looked at without the other steps of its net."""
     if not is_sequence_of(value, 4):
         return False
     name, kind, ins, outs = value
-    if not is_word(name) or not is_kind(kind):
+    return is_word(name) and is_kind(kind) and are_ins(ins, places) and are_outs(outs, places)
+
+
+def share_plain_in(kind, ins, other):
+    """Whether a step of this kind, with these ins, shares one with another step, and one of both is plain."""
+    if kind[0] != "plain" and other[1][0] != "plain":
         return False
-    if not is_marking(ins, places) or len(ins) == 0 or END_PLACE in ins:
-        return False
-    return is_marking(outs, places) and len(outs) > 0
+    return any([place in other[2] for place in ins])
 
 
 def agree(one, other):
     """Whether two steps have different names, and share no in that a plain one has."""
-    if one[0] == other[0]:
-        return False
-    if one[1][0] != "plain" and other[1][0] != "plain":
-        return True
-    return not any([place in other[2] for place in one[2]])
+    return one[0] != other[0] and not share_plain_in(one[1], one[2], other)
 
 
 def all_agree(steps):
