@@ -98,6 +98,15 @@ class WaitTest(HouseChecks):
         self.steps_taken(house, 1, "split", "z", "a")
         self.steps_taken(house, 2, "split", "z", "a")
 
+    def test_a_lesser_step_number_that_began_later(self):
+        net = (7, (step("split", PLAIN, [0], [2, 3]), step("late", wait(1), [4], [5]), step("early", wait(2), [3], [6]),
+                   step("first", wait(1), [2], [4]), step("join", CHOICE, [5, 6], [1])))
+        house = started(net)
+        later(house, 1)
+        self.assertEqual(house.waits(), ((1, "early", 2), (1, "late", 2)))
+        later(house, 1)
+        self.steps_taken(house, 1, "split", "first", "late", "early")
+
     def test_each_instance_is_settled_behind_each_wait(self):
         net = (8, (step("split", PLAIN, [0], [2, 3]), step("y", wait(2), [2], [4]), step("x", wait(2), [3], [5]),
                    step("next", PLAIN, [4], [6]), step("other", task("ink"), [5], [7]), step("join", CHOICE, [6, 7], [1])))

@@ -15,7 +15,7 @@ from wholeflow.houses import House
 from wholeflow.sound import finish
 from wholeflow.versions import fits, marking_after
 
-# Which right each command asks for, and where it names the instance or the flow.
+# The commands that ask for the right to steer.
 STEERING = ("cancel", "choose", "signal", "move")
 
 
@@ -27,13 +27,11 @@ class Watcher:
         self.house = House()
         self.kinds = {}
         self.ticks = {}
-        self.causes = {}
         self.undone = {}
         self.offers = {}
         self.moved = set()
         self.fences = []
         self.started = {}
-        self.claims = {}
 
     def calls(self, many):
         ahead = self.caller.first_calls()
@@ -242,11 +240,9 @@ class PromisesTest(HouseChecks):
         house = watcher.house
         flow, version, _, _, _, _, taken, _ = house.instance(number)
         net = house.net(flow, version)
-        if number in watcher.moved or number not in watcher.started and house.log()[-1][1] != "start":
+        if number in watcher.moved or has_circle(net):
             return
-        if has_circle(net):
-            return
-        begun = watcher.started.get(number, house.now())
+        begun = watcher.started[number]
         steps = {step[0]: step for step in net[1]}
         stands, took = {0: begun}, {}
         for word, tick in watcher.ticks.get(number, []):

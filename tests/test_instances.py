@@ -233,6 +233,25 @@ class SettlingTest(HouseChecks):
         self.assertEqual(house.waits(), ((1, "b", 9), (3, "b", 9)))
         self.assertEqual([house.instance(number)[4] for number in (1, 2, 3)], ["running", "ended", "running"])
 
+    def test_words_that_are_kinds(self):
+        house = started(row_of(("signal", "plain"), task("choice", 1, 5, "plain"), task("plain", 1, 5, "choice"),
+                               ("signal", "wait"), task("wait", 1, 5, "signal"), CHOICE))
+        self.steps_taken(house, 1)
+        self.refused(house, BadValue, 2, "choose", "root", 1, "a")
+        house.signal("root", 1, "plain")
+        self.steps_taken(house, 1, "a")
+        self.refused(house, BadValue, 2, "choose", "root", 1, "b")
+        self.work(house, "choice")
+        self.refused(house, BadValue, 2, "choose", "root", 1, "c")
+        self.work(house, "plain")
+        house.signal("root", 1, "signal")
+        self.steps_taken(house, 1, "a", "b", "c")
+        house.signal("root", 1, "wait")
+        self.work(house, "wait")
+        house.cancel("root", 1)
+        self.assertEqual([self.work(house, queue) for queue in ("signal", "choice", "plain")], [4, 5, 6])
+        self.status(house, 1, "undone")
+
     def test_many_signals_in_one_settling(self):
         loop = (3, (step("go", GO, [0], [2]), step("back", PLAIN, [2], [0]), step("end", ON, [0], [1])))
         house = started((3, (step("go", GO, [0], [2]), step("back", CHOICE, [2], [0]), step("end", ON, [0], [1]))), loop)

@@ -180,6 +180,14 @@ class ParsedTest(Checks):
             self.assertEqual(parse(printed(net)), net)
             self.assertEqual(printed(parse(printed(net)[:-1])), printed(net))
 
+    def test_words_that_are_kinds_and_heads_of_lines(self):
+        net = (4, (step("step", ("signal", "plain"), [0], [2]), step("in", ("task", "choice", 1, 2, "wait"), [2], [3]),
+                   step("out", ("task", "in", 1, 2, None), [3], [1]), step("net", ("signal", "signal"), [3], [1])))
+        text = ("net 4\nstep step signal plain\nin 0\nout 2\nstep in task choice 1 2 wait\nin 2\nout 3\n"
+                "step out task in 1 2 -\nin 3\nout 1\nstep net signal signal\nin 3\nout 1\n")
+        self.assertEqual(printed(net), text)
+        self.assertEqual(parse(text), net)
+
     def test_ten_steps_and_eight_places(self):
         net = (8, tuple(step("abcdefghij"[at], TASK, [0, 2, 3, 4, 5, 6, 7], range(8)) for at in range(10)))
         self.assertEqual(parse(printed(net)), net)
