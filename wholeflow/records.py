@@ -13,15 +13,15 @@ RESTING = "resting"
 class Task:
     """A task of a step, or one that undoes a step that was taken: this one has no ins and no tries."""
 
-    def __init__(self, number, instance_number, offered):
+    def __init__(self, number, instance_number, offered, step_name, ins, queue_name, tries, lease):
         self.number = number
         self.instance_number = instance_number
         self.offered = offered
-        self.step_name = ""
-        self.ins = ()
-        self.queue_name = ""
-        self.tries = 0
-        self.lease = 0
+        self.step_name = step_name
+        self.ins = ins
+        self.queue_name = queue_name
+        self.tries = tries
+        self.lease = lease
         self.failures = 0
         self.status = READY
         self.worker = None
@@ -70,12 +70,8 @@ class State:
 
 def copied_task(task):
     """Another task that is the same."""
-    other = Task(task.number, task.instance_number, task.offered)
-    other.step_name = task.step_name
-    other.ins = task.ins
-    other.queue_name = task.queue_name
-    other.tries = task.tries
-    other.lease = task.lease
+    other = Task(task.number, task.instance_number, task.offered, task.step_name, task.ins,
+                 task.queue_name, task.tries, task.lease)
     other.failures = task.failures
     other.status = task.status
     other.worker = task.worker

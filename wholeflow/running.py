@@ -109,20 +109,17 @@ def offer_steps(state, instance, net):
                 instance.dues[at] = due(kind[2], state.tick, kind[1])
 
 
-def new_task(state, instance):
-    """A task with the next number, offered now."""
-    state.last_task += 1
-    task = Task(state.last_task, instance.number, state.tick)
-    state.open_tasks[task.number] = task
-    return task
-
-
 def offer_task(state, instance, step):
     """A task for a step of the instance."""
-    task = new_task(state, instance)
-    task.step_name = step[0]
-    task.ins = step[2]
-    _, task.queue_name, task.tries, task.lease, _ = step[1]
+    _, queue, tries, lease, _ = step[1]
+    add_task(state, instance, step[0], step[2], queue, tries, lease)
+
+
+def add_task(state, instance, name, ins, queue, tries, lease):
+    """A task with the next number, offered now."""
+    state.last_task += 1
+    task = Task(state.last_task, instance.number, state.tick, name, ins, queue, tries, lease)
+    state.open_tasks[task.number] = task
 
 
 def begin_undoing(state, instance):
@@ -137,8 +134,8 @@ def offer_undoing(state, instance):
     if len(instance.to_undo) == 0:
         leave(state, instance, UNDONE)
         return
-    task = new_task(state, instance)
-    task.step_name, task.queue_name, task.lease = instance.to_undo[-1]
+    name, queue, lease = instance.to_undo[-1]
+    add_task(state, instance, name, (), queue, 0, lease)
 
 
 def finish_task(state, task):
