@@ -24,6 +24,10 @@ STATEMENTS = (
     ast.For, ast.Return, ast.Break, ast.Continue, ast.Pass, ast.Raise, ast.Assert, ast.Delete, ast.Try, ast.Expr,
 )
 DOUBLE_UNDERSCORES = ("__init__", "__eq__")
+# Values of all kinds that the language has of its own: the builtin ones (but errors), and what only calls give.
+VALUE_KINDS = [kind for kind in vars(builtins).values()
+               if isinstance(kind, type) and not issubclass(kind, BaseException)]
+VALUE_KINDS += [type(value) for value in ({}.keys(), {}.values(), {}.items(), (sign for sign in ""))]
 # The interface itself gives this parameter the name of a function of its file.
 SHADOWS = (("audit.py", "proof_holds", "top"),)
 UNWANTED = (ast.GeneratorExp, ast.Div, ast.Set, ast.SetComp, ast.Global, ast.Yield, ast.Await)
@@ -53,6 +57,18 @@ def defined(name):
         elif isinstance(node, ast.ImportFrom):
             found += [alias.name for alias in node.names]
     return found
+
+
+def taken_names():
+    """The names that values of the language's own have, as a method or an attribute."""
+    return {name for kind in VALUE_KINDS for name in dir(kind)}
+
+
+def uncalled(root):
+    """The attributes that are read without being called there."""
+    called = [node.func for node in ast.walk(root) if isinstance(node, ast.Call)]
+    return [node for node in ast.walk(root)
+            if isinstance(node, ast.Attribute) and isinstance(node.ctx, ast.Load) and node not in called]
 
 
 def local_names(function):
@@ -161,6 +177,29 @@ class LanguageTest(unittest.TestCase):
         for name, node in self.nodes(ast.Attribute):
             if isinstance(node.ctx, ast.Load):
                 self.assertIn(node.attr, assigned | own | set(METHODS), name)
+
+    def test_methods_as_values(self):
+        """A method that is read without a call is an own one, off an object, of a name that is only its own."""
+        classes = [node.name for _, node in self.nodes(ast.ClassDef)]
+        own = {method.name for _, node in self.nodes(ast.ClassDef)
+               for method in node.body if isinstance(method, ast.FunctionDef)}
+        assigned = {node.attr for _, node in self.nodes(ast.Attribute) if isinstance(node.ctx, ast.Store)}
+        free = own - taken_names()
+        for name in files():
+            for node in uncalled(tree(name)):
+                if node.attr not in assigned:
+                    self.assertIn(node.attr, free, (name, node.lineno))
+                    self.assertNotIn(getattr(node.value, "id", None), classes, (name, node.lineno))
+
+    def test_names_of_values(self):
+        """The look above knows what ranges and their like have, and tells a call from a read."""
+        for word in ("start", "stop", "step", "append", "copy", "items", "mapping", "send", "real", "encode"):
+            self.assertIn(word, taken_names())
+        for word in ("grant", "queue", "signal", "move"):
+            self.assertNotIn(word, taken_names())
+        rows = ast.parse("one(a.start, b.start(), c.start().stop, d.start(e.copy))")
+        self.assertEqual([(node.value.id if isinstance(node.value, ast.Name) else None, node.attr)
+                          for node in uncalled(rows)], [("a", "start"), (None, "stop"), ("e", "copy")])
 
     def test_double_underscores(self):
         for name, node in self.nodes(ast.FunctionDef):

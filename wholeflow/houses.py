@@ -323,8 +323,10 @@ def actions_of(house):
     """The commands of the house, by name."""
     return {
         "grant": house.grant, "revoke": house.revoke, "publish": house.publish, "queue": house.queue,
-        "start": house.start, "claim": house.claim, "done": house.done, "fail": house.fail,
-        "beat": house.beat, "clock": house.clock, "cancel": house.cancel, "choose": house.choose,
+        # Ranges have a start, too: a name that a builtin value has is called where it stands.
+        "start": lambda who, flow, priority: house.start(who, flow, priority),
+        "claim": house.claim, "done": house.done, "fail": house.fail, "beat": house.beat,
+        "clock": house.clock, "cancel": house.cancel, "choose": house.choose,
         "signal": house.signal, "move": house.move,
     }
 
